@@ -1,0 +1,1 @@
+"""Fuelshare: a language whose calls are handed shares of fuel."""
