@@ -1,7 +1,7 @@
 """Checks the names and the numbers in a program that fits the grammar."""
 
 from fuelshare.errors import CheckFault
-from fuelshare.nodes import list_statements
+from fuelshare.nodes import list_locals, list_statements
 
 MOST_FUNCTIONS = 12
 MOST_PARAMETERS = 4
@@ -48,16 +48,6 @@ def check_header_word(token, earlier, most, reason):
     earlier[token.text] = True
 
 
-def list_locals(function, statements):
-    """Returns a dict of all locals of a function."""
-    known = {parameter.text: True for parameter in function.parameters}
-    for _, statement in statements:
-        target = statement.assigned()
-        if target is not None:
-            known[target.text] = True
-    return known
-
-
 def check_limits(statement, number, depth):
     """Checks the number of a statement in the source, from 1, and how many blocks enclose it."""
     if number > MOST_STATEMENTS:
@@ -83,6 +73,6 @@ def check_call(statement, arities):
         fail("undefined", function)
     if len(statement.arguments) != arities[function.text]:
         fail("arguments", function)
-    part, whole = statement.share
-    if not 1 <= int(part.text) <= int(whole.text) <= LARGEST_SHARE:
-        fail("share", part)
+    part, whole = statement.fraction()
+    if not 1 <= part <= whole <= LARGEST_SHARE:
+        fail("share", statement.share[0])

@@ -1,13 +1,12 @@
 """Splits a source into tokens."""
 
 from fuelshare.errors import SyntaxFault
-from fuelshare.nodes import Token
+from fuelshare.nodes import CELLS, Token
 
 KEYWORDS = ("def", "set", "put", "emit", "return", "if", "else", "loop", "call", "share")
 SIGNS = "(){}=;,/<>+-*"
 LETTERS = "abcdefghijklmnopqrstuvwxyz"
 DIGITS = "0123456789"
-CELLS = "ABCDEFGH"
 LONGEST_WORD = 8
 LONGEST_NUMBER = 6
 

@@ -1,5 +1,7 @@
 """The parts of a program: tokens, expressions, statements and functions."""
 
+CELLS = "ABCDEFGH"
+
 
 class Token:
     """A token of a source and where it begins.
@@ -117,6 +119,11 @@ class CallStatement(Statement):
     def expressions(self):
         return self.arguments + [self.fallback]
 
+    def fraction(self):
+        """Returns the two numbers of the share."""
+        part, whole = self.share
+        return int(part.text), int(whole.text)
+
 
 class Function:
     """A function; its name and its parameters are tokens."""
@@ -138,3 +145,13 @@ def list_statements(block):
         for inner in reversed(statement.blocks()):
             waiting.extend([(depth + 1, nested) for nested in reversed(inner)])
     return found
+
+
+def list_locals(function, statements):
+    """Returns a dict of all locals of a function with these statements, listed as above."""
+    known = {parameter.text: True for parameter in function.parameters}
+    for _, statement in statements:
+        target = statement.assigned()
+        if target is not None:
+            known[target.text] = True
+    return known

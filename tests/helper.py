@@ -1,16 +1,28 @@
-"""What several test files need: marks in sources, faults as tuples, and a second reading of the grammar."""
+"""What several test files need.
+
+Marks in sources, faults as tuples and a second reading of the grammar; then a second
+reading and execution of sources, by recursion, and sources that are made up from a seed.
+There, statements are tuples that begin with their keyword, and expressions are lists of
+texts: terms and, between them, operators.
+"""
 
 import functools
+import random
 import re
+import sys
 
 from fuelshare.compiler import count_statements
 from fuelshare.errors import CheckFault, SyntaxFault
 from fuelshare.formatter import format_source
+from fuelshare.optimizer import optimize
 
 EXAMPLE = (
     "def main(n) { call r = half(n) share 1/2 else 9; emit r; return r + 1; } "
     "def half(x) { put A = x; return x; }"
 )
+
+NO_CELLS = (0,) * 8
+MOST_STEPS = 5000
 
 KEYWORDS = "def set put emit return if else loop call share".split()
 SIGNS = list("(){}=;,/<>+-*")
@@ -136,6 +148,7 @@ def fault_of(source):
     """Returns the fault of a source, which must be the same for all functions, and when repeated."""
     fault = fault_by(format_source, source)
     assert fault_by(count_statements, source) == fault, source
+    assert fault_by(optimize, source) == fault, source
     assert fault_by(format_source, source) == fault, source
     return fault
 
@@ -143,3 +156,312 @@ def fault_of(source):
 def lines_of(source):
     """Returns the canonical form of a source as a list of lines."""
     return format_source(source).split("\n")
+
+
+class Dry(Exception):
+    """The innermost call runs dry."""
+
+
+class TooLong(Exception):
+    """A full run takes too many steps."""
+
+
+class Reader:
+    """Reads a source that is known to be right."""
+
+    def __init__(self, source):
+        self.tokens = re.findall(r"[a-z]+|[0-9]+|[^ \n]", source)
+
+    def take(self):
+        return self.tokens.pop(0)
+
+    def skip(self, text):
+        assert self.take() == text
+
+    def read_source(self):
+        functions = {}
+        while self.tokens:
+            self.skip("def")
+            name = self.take()
+            parameters = self.read_list(self.take)
+            functions[name] = (parameters, self.read_block())
+        return functions
+
+    def read_list(self, read):
+        self.skip("(")
+        items = []
+        while self.tokens[0] != ")":
+            if items:
+                self.skip(",")
+            items.append(read())
+        self.skip(")")
+        return items
+
+    def read_block(self):
+        self.skip("{")
+        block = []
+        while self.tokens[0] != "}":
+            block.append(self.read_statement())
+        self.skip("}")
+        return block
+
+    def read_statement(self):
+        keyword = self.take()
+        if keyword == "if":
+            head = (keyword, self.read_expression(), self.take(), self.read_expression(), self.read_block())
+            if self.tokens[0] != "else":
+                return head + ([],)
+            self.skip("else")
+            return head + (self.read_block(),)
+        if keyword == "loop":
+            return (keyword, self.read_expression(), self.read_block())
+        if keyword == "call":
+            statement = self.read_call()
+        elif keyword in ("set", "put"):
+            target = self.take()
+            self.skip("=")
+            statement = (keyword, target, self.read_expression())
+        else:
+            statement = (keyword, self.read_expression())
+        self.skip(";")
+        return statement
+
+    def read_call(self):
+        target = self.take()
+        self.skip("=")
+        name = self.take()
+        arguments = self.read_list(self.read_expression)
+        self.skip("share")
+        part = int(self.take())
+        self.skip("/")
+        whole = int(self.take())
+        self.skip("else")
+        return ("call", target, name, arguments, part, whole, self.read_expression())
+
+    def read_expression(self):
+        expression = [self.take()]
+        while self.tokens[0] in "+-*":
+            expression += [self.take(), self.take()]
+        return expression
+
+
+class Reference:
+    """A run of a source; with fuel None the full run.
+
+    `states` has what a Stepper tells before each step: the fuel of all calls, the
+    cells and the output (None in full runs); `begins` has the function, arguments and cells of each call.
+    """
+
+    def __init__(self, source, arguments, fuel, cells=NO_CELLS):
+        self.functions = Reader(source).read_source()
+        self.full = fuel is None
+        self.cells = list(cells)
+        self.output = []
+        self.stack = []
+        self.events = []
+        self.states = []
+        self.begins = []
+        self.result, self.rest = self.start(list(arguments), 10 ** 9 if self.full else fuel)
+
+    def start(self, arguments, fuel):
+        """Calls the first function; only here Python may go deeper, as the package must not need it."""
+        limit = sys.getrecursionlimit()
+        sys.setrecursionlimit(100000)
+        try:
+            return self.call(list(self.functions)[0], arguments, fuel)
+        finally:
+            sys.setrecursionlimit(limit)
+
+    def outcome(self):
+        status = "dry" if self.result is None else "done"
+        return (status, self.result, tuple(self.cells), tuple(self.output), self.rest)
+
+    def has_dry(self):
+        return any(event[0] == "dry" for event in self.events)
+
+    def call(self, name, arguments, fuel):
+        before = list(self.cells), list(self.output)
+        self.stack.append(fuel)
+        self.events.append(("call", name, fuel))
+        self.begins.append((name, tuple(arguments), tuple(self.cells)))
+        parameters, body = self.functions[name]
+        try:
+            value = self.execute(body, dict(zip(parameters, arguments)))
+        except Dry:
+            self.stack.pop()
+            self.events.append(("dry", name))
+            self.cells, self.output = before
+            return None, 0
+        value = value or 0
+        rest = self.stack.pop()
+        self.events.append(("return", name, value, rest))
+        return value, rest
+
+    def pay(self):
+        self.states.append(None if self.full else (list(self.stack), tuple(self.cells), tuple(self.output)))
+        if self.full and len(self.states) > MOST_STEPS:
+            raise TooLong
+        if self.stack[-1] == 0:
+            raise Dry
+        self.stack[-1] -= 1
+
+    def execute(self, block, known):
+        """Executes a block; returns the value of a `return`, or None."""
+        for statement in block:
+            self.pay()
+            # Without a star in the call: with one, Python 3.13 does not go as deep.
+            action = getattr(self, "do_" + statement[0])
+            value = action(known, statement)
+            if value is not None:
+                return value
+        return None
+
+    def value(self, known, expression):
+        value = self.term(known, expression[0])
+        for operator, term in zip(expression[1::2], expression[2::2]):
+            other = self.term(known, term)
+            value = {"+": value + other, "-": value - other, "*": value * other}[operator] % 10 ** 6
+        return value
+
+    def term(self, known, term):
+        if term.isdigit():
+            return int(term)
+        if term.isupper():
+            return self.cells["ABCDEFGH".index(term)]
+        return known.get(term, 0)
+
+    def do_set(self, known, statement):
+        _, target, expression = statement
+        known[target] = self.value(known, expression)
+
+    def do_put(self, known, statement):
+        _, target, expression = statement
+        self.cells["ABCDEFGH".index(target)] = self.value(known, expression)
+
+    def do_emit(self, known, statement):
+        _, expression = statement
+        self.output.append(self.value(known, expression))
+
+    def do_return(self, known, statement):
+        _, expression = statement
+        return self.value(known, expression)
+
+    def do_if(self, known, statement):
+        _, left, comparison, right, first, second = statement
+        values = self.value(known, left), self.value(known, right)
+        order = (values[0] > values[1]) - (values[0] < values[1])
+        return self.execute(first if order == {"<": -1, "=": 0, ">": 1}[comparison] else second, known)
+
+    def do_loop(self, known, statement):
+        _, times, block = statement
+        for _ in range(self.value(known, times)):
+            self.pay()
+            value = self.execute(block, known)
+            if value is not None:
+                return value
+        return None
+
+    def do_call(self, known, statement):
+        _, target, name, arguments, part, whole, fallback = statement
+        values = [self.value(known, argument) for argument in arguments]
+        fuel = self.stack[-1] if self.full else part * self.stack[-1] // whole
+        self.stack[-1] -= fuel
+        value, rest = self.call(name, values, fuel)
+        self.stack[-1] += rest
+        known[target] = self.value(known, fallback) if value is None else value
+
+
+def full_reference(source, arguments, cells=NO_CELLS):
+    """Returns the full run of a source, or None if it takes too many steps."""
+    try:
+        return Reference(source, arguments, None, cells)
+    except TooLong:
+        return None
+
+
+class Maker:
+    """Makes a source up; the same seed makes the same source."""
+
+    def __init__(self, seed):
+        self.random = random.Random(seed)
+        self.arities = {name: self.random.randrange(3) for name in "fgh"[:self.random.choice([1, 2, 3, 3])]}
+        self.name = ""
+        self.left = 0
+        self.words = []
+
+    def make(self):
+        return "\n".join([self.make_function(name) for name in self.arities])
+
+    def make_function(self, name):
+        parameters = ["a", "b"][:self.arities[name]]
+        self.words = parameters + ["x", "y"]
+        self.name = name
+        self.left = 14
+        block = self.make_block(3)
+        starts = " ".join(["set x = 3; set y = a;", "set y = 1;", "set x = x; set y = y;"][self.random.randrange(3):])
+        if not parameters:
+            starts = starts.replace("set y = a;", "")
+        return f"def {name}({', '.join(parameters)}) {{ {starts} {block} }}"
+
+    def make_block(self, depth):
+        statements = []
+        for _ in range(self.random.choice([0, 1, 1, 2, 3, 4])):
+            if self.left > 0:
+                self.left -= 1
+                statements.append(self.make_statement(depth))
+        return " ".join(statements)
+
+    def make_statement(self, depth):
+        kinds = ["set", "put", "emit", "call"] * 2 + ["call", "return"] + ["if", "if", "loop"] * (depth > 0)
+        kind = self.random.choice(kinds)
+        if kind == "set":
+            return f"set {self.random.choice(self.words)} = {self.make_expression()};"
+        if kind == "put":
+            return f"put {self.random.choice('ABH')} = {self.make_expression()};"
+        if kind == "if":
+            comparison = self.random.choice("<=>")
+            head = f"if {self.make_expression()} {comparison} {self.make_expression()}"
+            first = self.make_block(depth - 1)
+            second = self.random.choice([first, self.make_block(depth - 1), self.make_block(depth - 1)])
+            return f"{head} {{ {first} }} else {{ {second} }}"
+        if kind == "loop":
+            times = self.random.choice(["0", "1", "2", "3", self.make_expression()])
+            return f"loop {times} {{ {self.make_block(depth - 1)} }}"
+        if kind == "call":
+            return self.make_call()
+        return f"{kind} {self.make_expression()};"
+
+    def make_call(self):
+        # Mostly a later function, so that many full runs end.
+        later = [name for name in self.arities if name > self.name]
+        name = self.random.choice(later if later and self.random.random() < 0.9 else list(self.arities))
+        arguments = ", ".join([self.make_expression() for _ in range(self.arities[name])])
+        whole = self.random.randint(1, 9)
+        share = f"{self.random.randint(1, whole)}/{whole}"
+        target = self.random.choice(self.words)
+        return f"call {target} = {name}({arguments}) share {share} else {self.make_expression()};"
+
+    def make_expression(self):
+        terms = [self.make_term()]
+        while self.random.random() < 0.35:
+            terms += [self.random.choice("+-*"), self.make_term()]
+        return " ".join(terms)
+
+    def make_term(self):
+        numbers = ["0", "1", "2", "3", "7", "0", "1", "2", "3", "999999"]
+        return self.random.choice([self.random.choice(numbers), self.random.choice(self.words), "A"])
+
+    def make_arguments(self):
+        return tuple(self.random.choice([0, 1, 2, 5, 999999]) for _ in range(list(self.arities.values())[0]))
+
+    def make_cells(self):
+        return tuple(self.random.choice([0, 1, 4, 999999]) for _ in range(8))
+
+
+def make_runs(seeds):
+    """Returns a list of (source, arguments, cells) made up from the seeds."""
+    runs = []
+    for seed in seeds:
+        maker = Maker(seed)
+        runs.append((maker.make(), maker.make_arguments(), maker.make_cells()))
+    return runs

@@ -12,7 +12,7 @@ BARRED_NODES = (
 )
 BUILTINS = """
 len range enumerate zip min max sum abs sorted reversed int str bool list tuple dict isinstance ord repr any all
-divmod ValueError KeyError
+divmod super ValueError KeyError
 """.split()
 
 
