@@ -2,18 +2,10 @@
 
 from fuelshare.engine import Engine
 from fuelshare.fullrun import measure_needs, run_fully
-from fuelshare.limits import NO_CELLS, check_arguments, check_cells, check_limit
+from fuelshare.limits import NO_CELLS, check_limit
 from fuelshare.machine import trace
 from fuelshare.nodes import list_statements
-from fuelshare.program import read_program
-
-
-def read_functions(source, arguments, cells):
-    """Returns the functions of a source, after checking what their runs are given."""
-    functions = read_program(source)
-    check_arguments(arguments, functions)
-    check_cells(cells)
-    return functions
+from fuelshare.program import read_functions
 
 
 def full_run(source, arguments, *, cells=NO_CELLS):

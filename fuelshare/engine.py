@@ -80,6 +80,22 @@ class Engine:
         while self.step():
             pass
 
+    def run_for(self, steps):
+        """Executes so many steps, or those that are left if they are fewer."""
+        for _ in range(steps):
+            if not self.step():
+                return
+
+    def cancel(self):
+        """Ends the run without undoing anything."""
+        self.status = "cancelled"
+        self.rest = self.fuel_left()
+        self.frames = []
+
+    def fuel_left(self):
+        """Returns the fuel of all running calls."""
+        return sum([frame.fuel for frame in self.frames])
+
     def outcome(self):
         """Returns the outcome so far."""
         return (self.status, self.result, self.cells, tuple(self.output), self.rest)

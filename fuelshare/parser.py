@@ -4,6 +4,7 @@ from fuelshare.errors import SyntaxFault
 from fuelshare.nodes import AssignStatement, CallStatement, Expression, Function
 from fuelshare.nodes import IfStatement, LoopStatement, ValueStatement
 
+# In the encoding of a program, operators and comparisons are numbers: their places here.
 OPERATORS = ("+", "-", "*")
 COMPARISONS = ("<", "=", ">")
 TERMS = ("number", "word", "cell")

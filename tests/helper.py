@@ -1,7 +1,9 @@
 """What several test files need.
 
-Marks in sources, faults as tuples and a second reading of the grammar; then a second
-reading and execution of sources, by recursion, and sources that are made up from a seed.
+Values that are not accepted, and sources with faults, with a class of tests that expects errors;
+marks in sources, faults as tuples and a second reading of the grammar; then a second reading
+and execution of sources, by recursion, and sources that are made up from a seed; at last a
+second workspace, which keeps nothing but its operations.
 There, statements are tuples that begin with their keyword, and expressions are lists of
 texts: terms and, between them, operators.
 """
@@ -10,9 +12,13 @@ import functools
 import random
 import re
 import sys
+import unittest
 
 from fuelshare.compiler import count_statements
-from fuelshare.errors import CheckFault, SyntaxFault
+from fuelshare.errors import (
+    CheckFault, FuelError, InvalidArguments, InvalidFuel, InvalidName, InvalidOperation, InvalidShare, SyntaxFault,
+    UnknownName,
+)
 from fuelshare.formatter import format_source
 from fuelshare.optimizer import optimize
 
@@ -21,8 +27,28 @@ EXAMPLE = (
     "def half(x) { put A = x; return x; }"
 )
 
+RIGHT = "def f(n) { return n; }"
+
 NO_CELLS = (0,) * 8
 MOST_STEPS = 5000
+
+WRONG_VALUES = [-1, 1000000, 10 ** 30, True, False, None, "1", "", (), (1,), [1]]
+WRONG_ARGUMENTS = [(), (1, 2), (1, 2, 3), [], [1], 1, 0, None, True, False, "", "1", ((1,),)]
+WRONG_ARGUMENTS += [(value,) for value in WRONG_VALUES]
+WRONG_CELLS = [(), (0,) * 7, (0,) * 9, [0] * 8, 0, None, True, "00000000", ((0,) * 8,)]
+WRONG_CELLS += [(0,) * place + (value,) + (0,) * (7 - place) for place in (0, 4, 7) for value in WRONG_VALUES]
+WRONG_FUEL = [-1, 10001, 10 ** 30, True, False, None, "5", "", (), (5,), [5], []]
+WRONG_SHARES = [
+    (0, 1), (0, 0), (1, 0), (-1, 1), (-1, -1), (1, -1), (2, 1), (9, 8), (10, 9), (1, 10), (10, 10), (10 ** 30, 9),
+    (True, 1), (1, True), (True, True), (False, 1), (None, 1), (1, None), ("1", 2), (1, "2"), ((1,), 2), (1, (2,)),
+    ([1], 2), (1, [2]), ("", ""), ([], []), ((), ()),
+]
+WRONG_NAMES = [
+    "", "A", "a1", "1", "a b", " a", "a ", "a\n", "abcdefghi", "a_b", "a-b", "aB", 0, 1, -1, True, False, None, (),
+    ("a",),
+    [], ["a"], [["a"]],
+]
+
 
 KEYWORDS = "def set put emit return if else loop call share".split()
 SIGNS = list("(){}=;,/<>+-*")
@@ -465,3 +491,173 @@ def make_runs(seeds):
         maker = Maker(seed)
         runs.append((maker.make(), maker.make_arguments(), maker.make_cells()))
     return runs
+
+
+# Sources with the fault that they have.
+FAULTS = [
+    ("", (SyntaxFault, {"line": 1, "column": 0})),
+    ("\n \n", (SyntaxFault, {"line": 3, "column": 0})),
+    ("def f(n) { return 07; }", (SyntaxFault, {"line": 0, "column": 18})),
+    ("def f(n) {\n  return n\n}", (SyntaxFault, {"line": 2, "column": 0})),
+    ("def f(n) { emit x; } }", (SyntaxFault, {"line": 0, "column": 21})),
+    ("def f(n) { return m; }", (CheckFault, {"reason": "undefined", "line": 0, "column": 18})),
+    ("def f(n, n) {}", (CheckFault, {"reason": "duplicate", "line": 0, "column": 9})),
+    ("def f(n) {}\ndef f(n) {}", (CheckFault, {"reason": "duplicate", "line": 1, "column": 4})),
+    ("def f(n) { call x = f(n) share 2/1 else 0; }", (CheckFault, {"reason": "share", "line": 0, "column": 31})),
+    ("def f(n) { call x = f() share 1/1 else 0; }", (CheckFault, {"reason": "arguments", "line": 0, "column": 20})),
+    ("def f(n) { " + "loop 1 { " * 9 + "}" * 10, (CheckFault, {"reason": "nesting", "line": 0, "column": 83})),
+]
+
+
+class Faults(unittest.TestCase):
+    def check(self, error, function, *arguments, **keywords):
+        """A call must raise this error, and raise it again."""
+        for _ in range(2):
+            with self.assertRaises(error) as caught:
+                function(*arguments, **keywords)
+            self.assertIs(type(caught.exception), error)
+        return vars(caught.exception)
+
+    def check_source(self, function, *arguments, **keywords):
+        """A function must raise the faults of sources before all other errors."""
+        for source, (error, attributes) in FAULTS:
+            self.assertEqual(self.check(error, function, source, *arguments, **keywords), attributes, source)
+
+
+def tell_workspace(workspace):
+    """Returns all that a workspace tells about itself."""
+    return (workspace.programs(), workspace.gauge(), workspace.cell_values(), workspace.log(), workspace.operations())
+
+
+def error_of(function, *arguments):
+    """Returns the error that a call raises as a tuple of its class and attributes, or None."""
+    try:
+        function(*arguments)
+    except FuelError as error:
+        return type(error), vars(error)
+    return None
+
+
+def call_operation(workspace, operation):
+    """Calls the method of a workspace that is meant by an operation, and returns its result."""
+    methods = {
+        "load": workspace.load_program, "unload": workspace.unload, "pour": workspace.pour,
+        "run": workspace.run_program, "undo": workspace.undo, "redo": workspace.redo,
+    }
+    return methods[operation[0]](*operation[1:])
+
+
+class WorkspaceModel:
+    """A workspace by the words of points 15 and 16; it tells its state by executing all operations in effect again."""
+
+    def __init__(self, fuel):
+        self.fuel = fuel
+        self.done = []
+        self.undone = []
+
+    def state(self):
+        state = ({}, self.fuel, NO_CELLS, [])
+        for operation in self.done:
+            state, _ = self.after(state, operation)
+        return state
+
+    def tell(self):
+        programs, level, cells, log = self.state()
+        return sorted(programs.items()), level, cells, log, [operation[0] for operation in self.done]
+
+    def execute(self, operation):
+        """Executes an operation and returns its result."""
+        if operation[0] in ("undo", "redo"):
+            source, target = (self.done, self.undone) if operation[0] == "undo" else (self.undone, self.done)
+            if source:
+                target.append(source.pop())
+                return True
+            return False
+        _, result = self.after(self.state(), operation)
+        self.done.append(operation)
+        self.undone.clear()
+        return result
+
+    def batch(self, operations):
+        """Executes operations, all or none, and returns their results."""
+        before = list(self.done), list(self.undone)
+        try:
+            return [self.execute(operation) for operation in operations]
+        except FuelError:
+            self.done, self.undone = before
+            raise
+
+    def after(self, state, operation):
+        """Returns the state behind an operation, and its result."""
+        action = getattr(self, "do_" + operation[0])
+        return action(*state, *operation[1:])
+
+    def do_load(self, programs, level, cells, log, name, source):
+        if not re.fullmatch("[a-z]{1,8}", name):
+            raise InvalidName
+        format_source(source)
+        return ({**programs, name: source}, level, cells, log), None
+
+    def do_unload(self, programs, level, cells, log, name):
+        if name not in programs:
+            raise UnknownName
+        return ({other: programs[other] for other in programs if other != name}, level, cells, log), None
+
+    def do_pour(self, programs, level, cells, log, amount):
+        if not 0 <= amount <= 10000 or level + amount > 10000:
+            raise InvalidFuel
+        return (programs, level + amount, cells, log), level + amount
+
+    def do_run(self, programs, level, cells, log, name, arguments, part, whole):
+        if name not in programs:
+            raise UnknownName
+        parameters = list(Reader(programs[name]).read_source().values())[0][0]
+        if len(parameters) != len(arguments):
+            raise InvalidArguments
+        if not 1 <= part <= whole <= 9:
+            raise InvalidShare
+        fuel = part * level // whole
+        status, result, cells, output, rest = Reference(programs[name], arguments, fuel, cells).outcome()
+        return (programs, level - fuel + rest, cells, log + list(output)), (status, result)
+
+
+def replay_model(fuel, operations):
+    """Returns a model after operations that are well-formed, or raises the error of `replay`."""
+    if not 0 <= fuel <= 10000:
+        raise InvalidFuel
+    model = WorkspaceModel(fuel)
+    for position, operation in enumerate(operations):
+        try:
+            model.execute(operation)
+        except FuelError:
+            raise InvalidOperation(position) from None
+    return model
+
+
+def make_operation(chance):
+    """Makes an operation up, which is well-formed but may fail."""
+    name = chance.choice(["a", "b", "c", "set"])
+    kind = chance.choice(["load", "load", "unload", "pour", "run", "run", "run", "run", "undo", "undo", "redo"])
+    if kind == "load":
+        source = chance.choice(PROGRAMS)
+        return ("load", chance.choice([name, name, name, name, "A"]), source)
+    if kind == "unload":
+        return ("unload", name)
+    if kind == "pour":
+        return ("pour", chance.choice([0, 1, 30, 200, 9000, 10001]))
+    if kind == "run":
+        arguments = tuple(chance.choice([0, 1, 3, 999999]) for _ in range(chance.choice([0, 1, 1, 1, 1, 2])))
+        return ("run", name, arguments) + chance.choice([(1, 2), (1, 2), (1, 9), (1, 1), (8, 9), (2, 1), (1, 10)])
+    return (kind,)
+
+
+# Mostly of one parameter; the last two have faults.
+PROGRAMS = [
+    EXAMPLE,
+    RIGHT,
+    "def f(n) {\n  put B = B + n;\n  emit B;\n  loop n { put C = C + 1; emit C; }\n  return C;\n}\n",
+    "def f(n) { emit n; call x = g() share 1/2 else 7; emit x; } def g() { put A = A + 1; loop A {} return A; }",
+    "def f() { emit A; emit B; emit C; }",
+    "def f(n) { emit m; }",
+    "def f(n) {",
+]

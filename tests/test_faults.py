@@ -6,9 +6,8 @@ from fuelshare import analysis, machine, optimizer
 from fuelshare.errors import (
     CheckFault, Endless, InvalidArguments, InvalidCells, InvalidFuel, InvalidLimit, SyntaxFault,
 )
-from tests.helper import NO_CELLS
+from tests.helper import NO_CELLS, RIGHT, WRONG_ARGUMENTS, WRONG_CELLS, WRONG_FUEL, Faults
 
-RIGHT = "def f(n) { return n; }"
 ENDLESS = "def f(n) { call x = f(n) share 1/1 else 0; }"
 
 FUELED = {"run": machine.run, "trace": machine.trace, "Stepper": machine.Stepper, "first_dry": analysis.first_dry}
@@ -26,43 +25,7 @@ LIMITED = {
         analysis.compare(source, source, arguments, limit, cells=cells),
 }
 
-WRONG_VALUES = [-1, 1000000, 10 ** 30, True, False, None, "1", "", (), (1,), [1]]
-WRONG_ARGUMENTS = [(), (1, 2), (1, 2, 3), [], [1], 1, 0, None, True, False, "", "1", ((1,),)]
-WRONG_ARGUMENTS += [(value,) for value in WRONG_VALUES]
-WRONG_CELLS = [(), (0,) * 7, (0,) * 9, [0] * 8, 0, None, True, "00000000", ((0,) * 8,)]
-WRONG_CELLS += [(0,) * place + (value,) + (0,) * (7 - place) for place in (0, 4, 7) for value in WRONG_VALUES]
-WRONG_FUEL = [-1, 10001, 10 ** 30, True, False, None, "5", "", (), (5,), [5], []]
 WRONG_LIMITS = [-1, 301, 10 ** 30, True, False, None, "5", "", (), (5,), [5], []]
-
-# Sources with the fault that they have.
-FAULTS = [
-    ("", (SyntaxFault, {"line": 1, "column": 0})),
-    ("\n \n", (SyntaxFault, {"line": 3, "column": 0})),
-    ("def f(n) { return 07; }", (SyntaxFault, {"line": 0, "column": 18})),
-    ("def f(n) {\n  return n\n}", (SyntaxFault, {"line": 2, "column": 0})),
-    ("def f(n) { emit x; } }", (SyntaxFault, {"line": 0, "column": 21})),
-    ("def f(n) { return m; }", (CheckFault, {"reason": "undefined", "line": 0, "column": 18})),
-    ("def f(n, n) {}", (CheckFault, {"reason": "duplicate", "line": 0, "column": 9})),
-    ("def f(n) {}\ndef f(n) {}", (CheckFault, {"reason": "duplicate", "line": 1, "column": 4})),
-    ("def f(n) { call x = f(n) share 2/1 else 0; }", (CheckFault, {"reason": "share", "line": 0, "column": 31})),
-    ("def f(n) { call x = f() share 1/1 else 0; }", (CheckFault, {"reason": "arguments", "line": 0, "column": 20})),
-    ("def f(n) { " + "loop 1 { " * 9 + "}" * 10, (CheckFault, {"reason": "nesting", "line": 0, "column": 83})),
-]
-
-
-class Faults(unittest.TestCase):
-    def check(self, error, function, *arguments, **keywords):
-        """A call must raise this error, and raise it again."""
-        for _ in range(2):
-            with self.assertRaises(error) as caught:
-                function(*arguments, **keywords)
-            self.assertIs(type(caught.exception), error)
-        return vars(caught.exception)
-
-    def check_source(self, function, *arguments, **keywords):
-        """A function must raise the faults of sources before all other errors."""
-        for source, (error, attributes) in FAULTS:
-            self.assertEqual(self.check(error, function, source, *arguments, **keywords), attributes, source)
 
 
 class FueledFaults(Faults):

@@ -35,6 +35,8 @@ def assigned_names(tree):
             names.append(node.arg)
         elif isinstance(node, ast.Name) and isinstance(node.ctx, ast.Store):
             names.append(node.id)
+        elif isinstance(node, (ast.MatchAs, ast.MatchStar)) and node.name:
+            names.append(node.name)
         elif isinstance(node, ast.alias):
             names.append(node.asname or node.name)
     return names
@@ -68,6 +70,44 @@ class Language(unittest.TestCase):
                 if isinstance(node, ast.ImportFrom):
                     self.assertEqual(node.level, 0, path.name)
                     self.assertRegex(node.module, r"^fuelshare\.[a-z]+$", path.name)
+
+    def test_imports_go_in_one_direction(self):
+        needs = {}
+        for path, _, tree in files():
+            modules = [node.module.split(".")[1] for node in ast.walk(tree) if isinstance(node, ast.ImportFrom)]
+            needs[path.stem] = set(modules)
+        while needs:
+            free = [name for name in needs if not needs[name]]
+            self.assertNotEqual(free, [], f"these import each other: {sorted(needs)}")
+            needs = {name: needs[name] - set(free) for name in needs if name not in free}
+
+    def test_imports_name_the_file_that_defines_the_name(self):
+        for path, _, tree in files():
+            for node in ast.walk(tree):
+                if isinstance(node, ast.ImportFrom):
+                    text = (PACKAGE / (node.module.split(".")[1] + ".py")).read_text(encoding="utf-8")
+                    for alias in node.names:
+                        pattern = rf"^(def|class) {alias.name}\b|^{alias.name} = "
+                        self.assertIsNotNone(re.search(pattern, text, re.M), f"{path.name}: {alias.name}")
+
+    def test_one_binding_for_each_name(self):
+        for path, _, tree in files():
+            outer = []
+            for node in tree.body:
+                outer += assigned_names(ast.Module([node], []))[:1] if not isinstance(node, ast.ImportFrom) else [
+                    alias.name for alias in node.names]
+            self.assertEqual(len(outer), len(set(outer)), path.name)
+            functions = [node for node in ast.walk(tree) if isinstance(node, ast.FunctionDef)]
+            for function in functions:
+                inner = set(assigned_names(function)[1:])
+                self.assertEqual(inner & set(outer), set(), f"{path.name}: {function.name}")
+
+    def test_imported_names_are_used(self):
+        for path, text, tree in files():
+            for node in ast.walk(tree):
+                if isinstance(node, ast.ImportFrom):
+                    for alias in node.names:
+                        self.assertGreater(len(re.findall(rf"\b{alias.name}\b", text)), 1, f"{path.name}: {alias.name}")
 
     def test_statements_and_expressions(self):
         for path, _, tree in files():
