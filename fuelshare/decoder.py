@@ -4,7 +4,7 @@ from fuelshare.arithmetic import LARGEST_VALUE
 from fuelshare.checker import MOST_STATEMENTS
 from fuelshare.errors import InvalidCode
 from fuelshare.lexer import KEYWORDS, LETTERS, LONGEST_WORD
-from fuelshare.limits import is_integer, is_within
+from fuelshare.limits import is_within
 from fuelshare.nodes import CELLS, AssignStatement, CallStatement, Expression, Function
 from fuelshare.nodes import IfStatement, LoopStatement, Token, ValueStatement
 from fuelshare.parser import COMPARISONS, OPERATORS
@@ -24,24 +24,13 @@ class ByteReader:
         self.code = code
         self.offset = 0
 
-    def ahead(self):
-        """Returns the byte here, or None if it is missing."""
-        return self.code[self.offset] if self.offset < len(self.code) else None
-
-    def accept(self, valid):
-        """Returns the byte here, which must be valid, and goes on."""
-        if not valid:
-            raise InvalidCode(self.offset)
-        self.offset += 1
-        return self.code[self.offset - 1]
-
     def take(self, least, most):
         """Returns the byte here, which must be between two others, these included, and goes on."""
-        return self.accept(is_within(self.ahead(), least, most))
-
-    def take_length(self):
-        """Returns the number of terms here, the only number that may be above 255, and goes on."""
-        return self.accept(is_integer(self.ahead()) and self.ahead() > 0)
+        byte = self.code[self.offset] if self.offset < len(self.code) else None
+        if not is_within(byte, least, most):
+            raise InvalidCode(self.offset)
+        self.offset += 1
+        return byte
 
 
 def checksum(code):
@@ -168,7 +157,8 @@ def decode_call(reader, keyword):
 
 def decode_expression(reader):
     """Returns the expression that begins here."""
-    length = reader.take_length()
+    # Numbers above 255 cannot be read, although `encode` writes them: they are no bytes.
+    length = reader.take(1, LARGEST_BYTE)
     reader.take(0, 0)
     terms = [decode_term(reader)]
     operators = []

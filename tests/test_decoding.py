@@ -29,11 +29,11 @@ class Second:
         self.at = 0
 
     def read(self, accepted):
-        """Returns the next byte, which must be in a range; without one it is a number of terms."""
+        """Returns the next byte, which must be in a range."""
         if self.at >= len(self.code):
             raise Wrong(self.at)
         byte = self.code[self.at]
-        if type(byte) is not int or (byte < 1 if accepted is None else byte not in accepted):
+        if type(byte) is not int or byte not in accepted:
             raise Wrong(self.at)
         self.at += 1
         return byte
@@ -80,7 +80,7 @@ class Second:
         return [f"{head}) share {self.read(range(256))}/{self.read(range(256))} else {self.expression()};"]
 
     def expression(self):
-        many = self.read(None)
+        many = self.read(range(1, 256))
         self.read(range(1))
         text = self.term()
         for _ in range(many - 1):
@@ -217,8 +217,11 @@ class Invalid(Codes):
 
     def test_expressions(self):
         start = [70, 1, 1, 5, 0, 1, 2]
-        for byte in [0, -1, -256] + [byte for byte in NO_BYTES if type(byte) is not int]:
+        for byte in [0, -256, 257] + NO_BYTES:
             self.refuse(start + [byte, 0, 1], 7)
+            # The value in `put` and the second expression of an `if` begin at other places.
+            self.refuse([70, 1, 1, 5, 0, 1, 1, 0, byte, 0, 1], 8)
+            self.refuse([70, 1, 1, 5, 0, 1, 4, 1, 0, 1, 0, byte, 0, 1, 0, 0], 11)
         for byte in [1, 2, 3, 255] + NO_BYTES:
             self.refuse(start + [1, byte, 1], 8)
         for byte in [3, 255] + NO_BYTES:
@@ -227,12 +230,21 @@ class Invalid(Codes):
             self.refuse(start + [1, 0, byte], 9)
             self.refuse(start + [2, 0, 1, 2, byte], 11)
 
-    def test_numbers_of_terms_may_be_above_255(self):
-        for many in (255, 256, 300):
+    def test_the_largest_numbers_of_terms(self):
+        for many in (254, 255):
             code = function(1, 2, many, *([0, 1] * many))
             self.assertEqual(decode(code), "def f() {\n  emit " + " + ".join(["A"] * many) + ";\n}")
             self.refuse(code[:-3], len(code) - 3)
-        self.refuse([70, 1, 1, 5, 0, 1, 2, 10 ** 30, 0, 1, 0, 1], 12)
+
+    def test_numbers_of_terms_above_255_are_no_bytes(self):
+        start = [70, 1, 1, 5, 0, 1, 2]
+        for many in (256, 257, 300, 512):
+            self.refuse(start + [many], 7)
+            self.refuse(start + [many, 0, 1], 7)
+            self.refuse(function(1, 2, many, *([0, 1] * many)), 7)
+            source = "def f() { emit A" + " + A" * (many - 1) + "; }"
+            self.refuse(encode(source), 7)
+        self.refuse(start + [10 ** 30, 0, 1, 0, 1], 7)
 
     def test_numbers_above_the_largest(self):
         start = [70, 1, 1, 5, 0, 1, 2, 1, 0, 0]
@@ -274,7 +286,7 @@ class Invalid(Codes):
         for source in SOURCES:
             code = encode(source)
             for at in range(len(code)):
-                for byte in ("7", None, True, False, (1,), [1], -1):
+                for byte in ("7", None, True, False, (1,), [1], -1, 256, 10 ** 30):
                     self.refuse(code[:at] + [byte] + code[at + 1:], at)
 
     def test_blocks_that_are_nested_deep(self):
